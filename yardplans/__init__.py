@@ -1,0 +1,1 @@
+"""Yardhall, layer a: track plans and routes."""
