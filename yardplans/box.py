@@ -3,9 +3,10 @@
 from yardplans.plan import Plan
 from yardplans.printing import print_plan
 from yardplans.reading import read_text
-from yardplans.routing import MOST_ROUTES, find_routes
+from yardplans.routing import find_routes
 
 LONGEST_TEXT = 1024
+MOST_ROUTES = 64
 
 
 class Box:
@@ -21,7 +22,7 @@ class Box:
         self.found = None
 
     def all_routes(self):
-        """The plan's routes, or one more than a plan may have."""
+        """The plan's routes, found once for each plan that is held."""
         if self.found is None:
             self.found = find_routes(self.plan)
         return self.found

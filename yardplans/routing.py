@@ -7,8 +7,6 @@ it counts as gone through, then those of the route.
 
 from yardplans.plan import PLAIN
 
-MOST_ROUTES = 64
-
 # For a plain section, a point, a cross: by the end come in by, the ends that may be left by.
 THROUGH = (
     ((1,), (0,)),
@@ -38,12 +36,12 @@ def ways_on(plan, way):
     return [way + ((section, entered[1], end),) for end in reversed(exits)]
 
 
-def routes_from(plan, signal, most):
-    """The steps of each route that begins at the signal's end, in order, but of so many at most."""
+def routes_from(plan, signal):
+    """The steps of each route that begins at the signal's end, in order."""
     found = []
     # The last one waiting is taken first, so all behind a lower end come before those behind a higher.
     waiting = ways_on(plan, ((signal[0], 1 - signal[1], signal[1]),))
-    while len(waiting) > 0 and len(found) < most:
+    while len(waiting) > 0:
         way = waiting.pop()
         if may_stop(plan, way[-1]):
             found.append(way[1:])
@@ -53,9 +51,9 @@ def routes_from(plan, signal, most):
 
 
 def find_routes(plan):
-    """The routes in order, each its signal's number and its steps; one too many tells that there are more."""
+    """All routes in order, each as its signal's number and its steps."""
     routes = []
     for number, signal in enumerate(plan.signal_ends()):
-        for steps in routes_from(plan, signal, MOST_ROUTES + 1 - len(routes)):
+        for steps in routes_from(plan, signal):
             routes.append((number, steps))
     return routes

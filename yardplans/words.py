@@ -44,4 +44,4 @@ def is_name(word):
 
 def is_end(word):
     """Whether the word has the form of an end: a name, a point, a digit from 0 to 3."""
-    return len(word) > 2 and is_name(word[:-2]) and word[-2] == DOT and is_digit(word[-1], 3)
+    return is_name(word[:-2]) and word[-2] == DOT and is_digit(word[-1], 3)
