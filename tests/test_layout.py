@@ -4,7 +4,9 @@ import contextlib
 import io
 import unittest
 
-from tests.helper import COUNTS, PRINT, ROUTES, ask, diamond_yard, end, read, read_bytes, section, text_of
+from tests.helper import (
+    COUNTS, LADDER, PRINT, ROUTES, ask, conflict, diamond_yard, end, most, points, read, read_bytes, route, section,
+    starting, text_of, together)
 from yardplans.box import answers
 
 
@@ -17,17 +19,36 @@ class Layout(unittest.TestCase):
         self.assertEqual(answers([3, 0, 0]), [1, -4])
         self.assertEqual(answers([4]), [4, 0, 0, 0, 0])
         self.assertEqual(answers([5]), [1, 0])
+        self.assertEqual(answers([6, 0]), [1, -4])
+        self.assertEqual(answers([7, 0]), [1, -4])
+        self.assertEqual(answers([8, 0, 0]), [1, -4])
+        self.assertEqual(answers([9, 0]), [1, -4])
+        self.assertEqual(answers([10, 0]), [1, 0])
+        self.assertEqual(answers([10, 1, 0]), [1, -4])
+        self.assertEqual(answers([11, 0]), [1, 0])
+        self.assertEqual(answers([11, 1, 0]), [1, -4])
 
     def test_several_calls(self):
         text = text_of("plain A")
         calls = [0, len(text)] + text + [2, 0, 3, 0, 1, 4, 1, 5]
         self.assertEqual(answers(calls), [1, 1, 3, 0, 1, 65, 1, 0, 4, 1, 0, 0, 0, 9, 8] + text + [1, 0])
 
+    def test_several_calls_for_routes(self):
+        text = text_of(*LADDER)
+        calls = [0, len(text)] + text + [6, 0, 7, 1, 8, 1, 5, 8, 0, 2, 9, 3, 10, 3, 1, 2, 3, 11, 3, 1, 2, 3, 10, 0, 5]
+        self.assertEqual(answers(calls), [
+            1, 6, 8, 0, 2, 2, 0, 1, 4, 0, 1, 5, 2, 2, 2, 3, 2, 2, 1, 2, 1, 0, 3, 2, 4, 5, 2, 1, 1, 3, 2, 2, 3, 1, 0,
+            1, 6])
+
     def test_numbers_within_a_row_are_no_calls(self):
         self.assertEqual(answers([0, 6, 0, 1, 2, 3, 4, 5, 4]), [3, -6, 0, 1, 4, 0, 0, 0, 0])
+        self.assertEqual(answers([10, 4, 1, 2, 3, 11, 4]), [1, -4, 4, 0, 0, 0, 0])
+        self.assertEqual(answers([11, 4, 0, 1, 2, 3, 4]), [1, -4, 4, 0, 0, 0, 0])
 
     def test_a_long_row(self):
         self.assertEqual(ask(read_bytes([1] * 20000), COUNTS), [[-2], [0, 0, 0, 0]])
+        self.assertEqual(ask(together(*[1] * 20000), COUNTS), [[-4], [0, 0, 0, 0]])
+        self.assertEqual(ask(most(*[1] * 20000), COUNTS), [[-1], [0, 0, 0, 0]])
 
     def test_a_refusal_is_its_number_alone(self):
         told = ask(section(7), end(7, 7), read_bytes([65] * 1025), read(*diamond_yard(7)), ROUTES)
@@ -50,14 +71,18 @@ class Layout(unittest.TestCase):
 
     def test_whole_numbers_alone(self):
         told = answers([number for call in [read(*diamond_yard(2)), PRINT, COUNTS, ROUTES, section(0), end(0, 0),
-                                            end(4, 0), end(4, 1), read_bytes([1])] for number in call])
+                                            end(4, 0), end(4, 1), route(0), points(3), conflict(0, 1),
+                                            conflict(1, 1), starting(0), together(0, 1), most(0, 1), route(4),
+                                            read_bytes([1])] for number in call])
         self.assertIs(type(told), list)
         self.assertEqual({type(number) for number in told}, {int})
 
 
 class NothingKept(unittest.TestCase):
     def setUp(self):
-        parts = [read(*diamond_yard(2)), PRINT, COUNTS, ROUTES, read("plain A", "x"), section(0), end(4, 1), PRINT]
+        parts = [read(*diamond_yard(2)), PRINT, COUNTS, ROUTES, read("plain A", "x"), section(0), end(4, 1), PRINT,
+                 read(*LADDER), route(5), points(5), conflict(5, 1), starting(3), together(4, 4, 0, 1),
+                 together(2, 9), most(1, 2, 3), most(*range(6)), most(2, 1), together(3, 2, 1), ROUTES]
         self.calls = [number for call in parts for number in call]
 
     def test_what_is_handed_in_stays(self):
@@ -79,7 +104,7 @@ class NothingKept(unittest.TestCase):
         again = list(first)
         first.clear()
         self.assertEqual(answers(self.calls), again)
-        self.assertEqual(answers([4, 1, 5]), [4, 0, 0, 0, 0, 1, 0, 1, 0])
+        self.assertEqual(answers([4, 1, 5, 6, 0]), [4, 0, 0, 0, 0, 1, 0, 1, 0, 1, -4])
 
     def test_nothing_is_printed(self):
         out = io.StringIO()

@@ -2,10 +2,9 @@
 
 import unittest
 
-from tests.helper import COUNTS, ask, diamonds, end, read, section
+from tests.helper import COUNTS, HIGHEST, ask, diamonds, end, read, section
 from tests.test_read import longest_plan
 
-HIGHEST = 4294967295
 YARD = read(
     "plain B", "point A", "cross C1X9", "plain D",
     "join A.0 B.1", "join A.1 C1X9.0", "join C1X9.1 D.0",

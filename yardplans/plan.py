@@ -5,6 +5,7 @@ the ends' order is the order of their tuples.
 """
 
 PLAIN = 0
+POINT = 1
 # How many ends a plain section, a point and a cross have.
 END_COUNTS = (2, 3, 4)
 
